@@ -1,0 +1,211 @@
+package gatehouse_test
+
+import (
+	"math"
+	"slices"
+	"strings"
+	"sync"
+	"testing"
+
+	"gatehouse/api"
+	"gatehouse/gatehouse"
+)
+
+// P1: whatever is handed in, the calls end and do not panic.
+func TestP1EveryCallEnds(t *testing.T) {
+	texts := []string{"", "+", "-", "@", "#", ":", "=", "\x00", "\xff", "a#b=", "a:b#c@", "+a:b#c@d:e#"}
+	for _, piece := range []string{"(", ")", "a", "é", "\xff", "a#b=(", "+a:b#c@", "|", "->", "\uFFFD"} {
+		texts = append(texts, strings.Repeat(piece, 1000000))
+	}
+	numbers := []int{math.MinInt, -1, 0, 1, 2, 5, 7, api.MaxNumber, api.MaxNumber + 1, math.MaxInt}
+	g := opened(t, "a#b=this")
+	for range 2 {
+		for _, text := range texts {
+			gatehouse.Open([]string{text}, 1, 1)
+			gatehouse.Open(slices.Repeat([]string{text}, 12), 4, 6)
+			g.Write([]string{text})
+			g.Write([]string{"+" + text})
+			g.Write([]string{"-a:b#b@c:d", "-" + text})
+			g.Check(text)
+			g.Expand(text)
+			g.Cost(text)
+			g.Submit(text, 1, 1)
+		}
+		for _, number := range numbers {
+			gatehouse.Open(nil, number, 1)
+			gatehouse.Open(nil, 1, number)
+			g.Submit("a:b#b", number, number)
+			g.Step(number)
+			g.Cancel(number)
+			g.Poll(number)
+			g.Tick()
+		}
+		g.Write(make([]string, 1000000))
+		g.Write(nil)
+		g.Tuples()
+		g.Close()
+	}
+}
+
+// P1: which error goes first, where several apply.
+func TestP1TheErrorNamedFirst(t *testing.T) {
+	refusedOpen(t, []string{"none"}, 0, 1, 0, api.ErrArg)
+	refusedOpen(t, []string{"a#b=this", "none"}, 1, 7, 0, api.ErrArg)
+	refusedOpen(t, slices.Repeat([]string{"none"}, 13), 1, 1, 0, api.ErrArg)
+	refusedOpen(t, []string{"a#b=this", "a#b=", "a#b=this"}, 1, 1, 1, api.ErrRule)
+	refusedOpen(t, []string{"a#b=this", "a#b=this", "none"}, 1, 1, 1, api.ErrTwice)
+
+	g := opened(t, "a#b=this")
+	none, unruled := "+", "+a:1#c@d:e"
+	refusedWrite(t, g, slices.Repeat([]string{none}, 21), 0, api.ErrFull)
+	refusedWrite(t, g, []string{none, unruled}, 0, api.ErrTuple)
+	refusedWrite(t, g, []string{unruled, none}, 0, api.ErrNone)
+	refusedWrite(t, g, []string{"+a:1#c@d:e#"}, 0, api.ErrTuple)
+	written(t, g, 1, numbered(0, 20)...)
+	written(t, g, 2, numbered(20, 40)...)
+	refusedWrite(t, g, append(numbered(40, 59), none), 19, api.ErrTuple)
+	refusedWrite(t, g, append(numbered(40, 59), unruled), 19, api.ErrNone)
+	g.Close()
+	refusedWrite(t, g, slices.Repeat([]string{none}, 21), 0, api.ErrClosed)
+	refusedWrite(t, g, []string{none}, 0, api.ErrClosed)
+	refusedWrite(t, g, []string{unruled}, 0, api.ErrClosed)
+	refusedWrite(t, g, numbered(40, 60), 0, api.ErrClosed)
+}
+
+// P1: with an error nothing has changed: neither the tuples nor the version.
+func TestP1AnErrorChangesNothing(t *testing.T) {
+	g := opened(t, "a#b=this")
+	written(t, g, 1, "+a:1#b@c:d", "+a:2#b@c:d")
+	for _, last := range []string{"", "a:3#b@c:d", "+a:3#c@c:d", "+a:3#b@c:d#b"} {
+		refusedBefore := []string{"-a:1#b@c:d", "+a:0#b@c:d", last}
+		if v, at, e := g.Write(refusedBefore); v != 0 || at != 2 || e == api.OK {
+			t.Errorf("Write(%q) = %d, %d, %d", refusedBefore, v, at, e)
+		}
+		holds(t, g, "a:1#b@c:d", "a:2#b@c:d")
+	}
+	written(t, g, 2, numbered(10, 30)...)
+	written(t, g, 3, numbered(30, 50)...)
+	before := g.Tuples()
+	refusedWrite(t, g, append([]string{"-a:1#b@c:d"}, numbered(50, 60)...), 0, api.ErrFull)
+	refusedWrite(t, g, numbered(50, 71), 0, api.ErrFull)
+	holds(t, g, before...)
+	written(t, g, 4)
+	g.Close()
+	refusedWrite(t, g, []string{"-a:1#b@c:d"}, 0, api.ErrClosed)
+	holds(t, g, before...)
+}
+
+// P2: lists that are handed in stay as they are, behind their end too.
+func TestP2NothingHandedInIsWrittenInto(t *testing.T) {
+	rules := []string{"b#b=this", "a#b=this", "spare", "room"}
+	g, _, e := gatehouse.Open(rules[:2], 1, 1)
+	if e != api.OK || !slices.Equal(rules, []string{"b#b=this", "a#b=this", "spare", "room"}) {
+		t.Fatalf("Open: %d, and the rules are %q", e, rules)
+	}
+	batch := []string{"+b:1#b@c:d", "+a:1#b@c:d", "-b:1#b@c:d", "+b:0#b@c:d", "spare", "room"}
+	before := slices.Clone(batch)
+	written(t, g, 1, batch[:4]...)
+	refusedWrite(t, g, batch[:5], 4, api.ErrTuple)
+	g.Tuples()
+	if !slices.Equal(batch, before) {
+		t.Errorf("behind Write the batch is %q", batch)
+	}
+}
+
+// P2: nothing that is handed in is kept: neither lists nor the memory of texts.
+func TestP2NothingHandedInIsKept(t *testing.T) {
+	rule, head := lend("a#b=this|c->d"), lend("c#d=this")
+	rules := []string{rule.text(), head.text()}
+	g := opened(t, rules...)
+	rule.overwrite()
+	head.overwrite()
+	rules[0], rules[1] = "x#y=this", "x#z=this"
+
+	first, second := lend("+a:1#b@c:d#d"), lend("+c:1#d@u:v")
+	batch := []string{first.text(), second.text()}
+	written(t, g, 1, batch...)
+	first.overwrite()
+	second.overwrite()
+	batch[0], batch[1] = "+c:9#d@u:v", "+c:9#d@u:v"
+	holds(t, g, "a:1#b@c:d#d", "c:1#d@u:v")
+	refusedWrite(t, g, []string{"+x:1#y@u:v"}, 0, api.ErrNone)
+
+	again, gone := lend("+a:1#b@c:d#d"), lend("-c:1#d@u:v")
+	written(t, g, 2, again.text(), gone.text())
+	again.overwrite()
+	gone.overwrite()
+	holds(t, g, "a:1#b@c:d#d")
+}
+
+// P2: answers are the caller's, with their spare room; no other answer feels what is written into one.
+func TestP2AnswersAreNewMemory(t *testing.T) {
+	g := opened(t, "a#b=this")
+	if got := g.Tuples(); len(got) != 0 {
+		t.Errorf("Tuples of a new gate = %q", got)
+	}
+	var answers, wants [][]string
+	var want []string
+	for i, part := range numbered(0, 20) {
+		written(t, g, i+1, part)
+		want = append(want, part[1:])
+		answers, wants = append(answers, g.Tuples()), append(wants, slices.Clone(want))
+		spoil := g.Tuples()
+		spoil = spoil[:cap(spoil)]
+		for at := range spoil {
+			spoil[at] = "the caller's"
+		}
+	}
+	holds(t, g, want...)
+	for i := range answers {
+		if !slices.Equal(answers[i], wants[i]) {
+			t.Errorf("the answer %d has become %q", i, answers[i])
+		}
+	}
+}
+
+// P2: one gate does not touch another.
+func TestP2GatesAreApart(t *testing.T) {
+	one, other := opened(t, "a#b=this", "a#c=this"), opened(t, "a#b=this")
+	written(t, one, 1, "+a:1#b@c:d")
+	written(t, one, 2, "+a:1#c@c:d")
+	holds(t, other)
+	refusedWrite(t, other, []string{"+a:1#c@c:d"}, 0, api.ErrNone)
+	written(t, other, 1, "+a:2#b@c:d")
+	one.Close()
+	written(t, other, 2, "-a:1#b@c:d")
+	holds(t, one, "a:1#b@c:d", "a:1#c@c:d")
+	holds(t, other, "a:2#b@c:d")
+}
+
+// A gate is asked by many at once: each Write has a version of its own, and none is lost.
+func TestManyAtOnce(t *testing.T) {
+	g := opened(t, "a#b=this")
+	parts := numbered(0, 50)
+	const rounds = 40
+	versions := make([][]int, len(parts))
+	var all sync.WaitGroup
+	for i, part := range parts {
+		all.Add(1)
+		go func() {
+			defer all.Done()
+			for range rounds {
+				v, _, _ := g.Write([]string{part})
+				versions[i] = append(versions[i], v)
+				if got := g.Tuples(); !slices.IsSorted(got) || !slices.Contains(got, part[1:]) {
+					t.Errorf("behind %q Tuples = %q", part, got)
+				}
+			}
+		}()
+	}
+	all.Wait()
+	told := slices.Concat(versions...)
+	slices.Sort(told)
+	for i, v := range told {
+		if v != i+1 {
+			t.Fatalf("the version told in place %d is %d", i, v)
+		}
+	}
+	if got := g.Tuples(); len(got) != len(parts) {
+		t.Errorf("%d tuples, want %d", len(got), len(parts))
+	}
+}
