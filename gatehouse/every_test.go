@@ -26,10 +26,12 @@ func TestP1EveryCallEnds(t *testing.T) {
 			g.Write([]string{text})
 			g.Write([]string{"+" + text})
 			g.Write([]string{"-a:b#b@c:d", "-" + text})
-			g.Check(text)
-			g.Expand(text)
-			g.Cost(text)
-			g.Submit(text, 1, 1)
+			for _, question := range []string{text, "a:b#" + text, "a:b#b@" + text, "a:b#b@c:" + text} {
+				g.Check(question)
+				g.Expand(question)
+				g.Cost(question)
+				g.Submit(question, 1, 1)
+			}
 		}
 		for _, number := range numbers {
 			gatehouse.Open(nil, number, 1)
@@ -163,6 +165,35 @@ func TestP2AnswersAreNewMemory(t *testing.T) {
 	}
 }
 
+// P2: what Expand answers is the caller's too, and shares no memory with what was asked.
+func TestP2AnswersToQuestionsAreNewMemory(t *testing.T) {
+	g := opened(t, "a#b=this")
+	written(t, g, 1, "+a:1#b@c:z", "+a:1#b@c:y", "+a:1#b@c:x")
+	for range 3 {
+		spoil, _ := g.Expand("a:1#b")
+		spoil = spoil[:cap(spoil)]
+		for at := range spoil {
+			spoil[at] = "the caller's"
+		}
+		expands(t, g, "a:1#b", "c:x", "c:y", "c:z")
+		holds(t, g, "a:1#b@c:x", "a:1#b@c:y", "a:1#b@c:z")
+	}
+	node, check := lend("a:1#b"), lend("a:1#b@c:x")
+	before, e := g.Expand(node.text())
+	if is, f := g.Check(check.text()); !is || e != api.OK || f != api.OK {
+		t.Errorf("Check = %v, %d, and Expand's error is %d", is, f, e)
+	}
+	g.Cost(node.text())
+	g.Cost(check.text())
+	node.overwrite()
+	check.overwrite()
+	written(t, g, 2, "-a:1#b@c:y")
+	if !slices.Equal(before, []string{"c:x", "c:y", "c:z"}) {
+		t.Errorf("what Expand answered has become %q", before)
+	}
+	expands(t, g, "a:1#b", "c:x", "c:z")
+}
+
 // P2: one gate does not touch another.
 func TestP2GatesAreApart(t *testing.T) {
 	one, other := opened(t, "a#b=this", "a#c=this"), opened(t, "a#b=this")
@@ -175,6 +206,11 @@ func TestP2GatesAreApart(t *testing.T) {
 	written(t, other, 2, "-a:1#b@c:d")
 	holds(t, one, "a:1#b@c:d", "a:1#c@c:d")
 	holds(t, other, "a:2#b@c:d")
+	expands(t, one, "a:1#b", "c:d")
+	expands(t, other, "a:1#b")
+	expands(t, one, "a:2#b")
+	expands(t, other, "a:2#b", "c:d")
+	refused(t, other, "a:1#c", api.ErrTuple, api.ErrNone, api.ErrNone)
 }
 
 // A gate is asked by many at once: each Write has a version of its own, and none is lost.
@@ -208,4 +244,37 @@ func TestManyAtOnce(t *testing.T) {
 	if got := g.Tuples(); len(got) != len(parts) {
 		t.Errorf("%d tuples, want %d", len(got), len(parts))
 	}
+}
+
+// Whoever asks while others write is answered by one version: never by half of a batch.
+func TestManyAskAtOnce(t *testing.T) {
+	g := opened(t, "a#b=this", "a#c=b")
+	batches := [][]string{
+		{"+a:1#b@u:x", "-a:1#b@a:2#b", "-a:2#b@u:y"},
+		{"-a:1#b@u:x", "+a:1#b@a:2#b", "+a:2#b@u:y"},
+	}
+	g.Write(batches[0])
+	var all sync.WaitGroup
+	for i := range 16 {
+		all.Add(1)
+		go func() {
+			defer all.Done()
+			for round := range 200 {
+				if i < 4 {
+					g.Write(batches[round%2])
+				}
+				who, e := g.Expand("a:1#c")
+				if e != api.OK || len(who) != 1 || who[0] != "u:x" && who[0] != "u:y" {
+					t.Errorf("Expand = %q, %d", who, e)
+				}
+				if n, e := g.Cost("a:1#c"); e != api.OK || n != 2 && n != 3 {
+					t.Errorf("Cost = %d, %d", n, e)
+				}
+				if is, e := g.Check("a:1#c@a:2"); is || e != api.OK {
+					t.Errorf("Check = %v, %d", is, e)
+				}
+			}
+		}()
+	}
+	all.Wait()
 }

@@ -7,14 +7,15 @@ import (
 	"sync"
 
 	"gatehouse/api"
+	"gatehouse/ties"
 	"gatehouse/words"
 )
 
 // Gate has rules, tuples, and requests.
 type Gate struct {
 	lock    sync.Mutex
-	rules   map[words.Head]words.Way
-	tuples  []string // in order; replaced by each Write, never written into
+	rules   map[words.Head]words.Way // never changed, so it is read without the lock
+	tuples  []string                 // in order; replaced by each Write, never written into
 	version int
 	closed  bool
 }
@@ -108,19 +109,56 @@ func changed(tuples, batch []string) []string {
 
 // Tuples tells all tuples (P4).
 func (g *Gate) Tuples() []string {
-	g.lock.Lock()
-	defer g.lock.Unlock()
-	return slices.Clone(g.tuples)
+	return slices.Clone(g.snapshot())
 }
 
 // Check tells whether a tuple follows (P5).
-func (g *Gate) Check(question string) (bool, api.Errno) { return false, api.OK }
+func (g *Gate) Check(question string) (bool, api.Errno) {
+	asked, ok := words.ReadQuestion(question)
+	if !ok || !asked.IsCheck() {
+		return false, api.ErrTuple
+	}
+	if !g.hasRule(asked.Node) {
+		return false, api.ErrNone
+	}
+	return g.now().Stands(asked.Subject, asked.Node), api.OK
+}
 
 // Expand tells who stands in a relation (P5).
-func (g *Gate) Expand(question string) ([]string, api.Errno) { return nil, api.OK }
+func (g *Gate) Expand(question string) ([]string, api.Errno) {
+	asked, ok := words.ReadQuestion(question)
+	if !ok || asked.IsCheck() {
+		return nil, api.ErrTuple
+	}
+	if !g.hasRule(asked.Node) {
+		return nil, api.ErrNone
+	}
+	return g.now().Who(asked.Node), api.OK
+}
 
 // Cost tells how many nodes a question needs (P6).
-func (g *Gate) Cost(question string) (int, api.Errno) { return 0, api.OK }
+func (g *Gate) Cost(question string) (int, api.Errno) {
+	asked, ok := words.ReadQuestion(question)
+	if !ok {
+		return 0, api.ErrTuple
+	}
+	if !g.hasRule(asked.Node) {
+		return 0, api.ErrNone
+	}
+	return g.now().Cost(asked.Node), api.OK
+}
+
+// now gives the ties as they are. The lock is held for no more than a look at the tuples, so that no question waits for another's answer.
+func (g *Gate) now() *ties.Ties {
+	return ties.Of(g.rules, g.snapshot())
+}
+
+// snapshot is only to be read.
+func (g *Gate) snapshot() []string {
+	g.lock.Lock()
+	defer g.lock.Unlock()
+	return g.tuples
+}
 
 // Submit puts a question to the workers (P7).
 func (g *Gate) Submit(question string, budget, until int) (int, api.Errno) { return 0, api.OK }

@@ -25,6 +25,16 @@ func (n Node) IsThing() bool {
 	return n.Relation == ""
 }
 
+// Thing is the node's thing alone.
+func (n Node) Thing() Node {
+	return Node{Kind: n.Kind, Name: n.Name}
+}
+
+// ThingText is the node's thing as it is written.
+func (n Node) ThingText() string {
+	return n.Kind + ":" + n.Name
+}
+
 // ReadTuple reads a tuple; false if the text is none. The names are pieces of the text.
 func ReadTuple(text string) (Tuple, bool) {
 	r := reader{rest: text}
