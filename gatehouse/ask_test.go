@@ -60,11 +60,14 @@ func refused(t *testing.T, g *gatehouse.Gate, question string, check, expand, co
 
 var exampleRules = []string{"group#member=this", "doc#owner=this", "doc#reader=this|owner|parent->reader", "doc#parent=this", "doc#editor=reader&this"}
 
+var exampleTuples = []string{
+	"group:a#member@group:b#member", "group:b#member@group:a#member", "group:b#member@user:x",
+	"doc:1#reader@group:a#member", "doc:2#parent@doc:1", "doc:2#owner@user:y",
+}
+
 func example(t *testing.T) *gatehouse.Gate {
 	t.Helper()
-	return holding(t, exampleRules,
-		"group:a#member@group:b#member", "group:b#member@group:a#member", "group:b#member@user:x",
-		"doc:1#reader@group:a#member", "doc:2#parent@doc:1", "doc:2#owner@user:y")
+	return holding(t, exampleRules, exampleTuples...)
 }
 
 func TestP5Example(t *testing.T) {
@@ -229,30 +232,33 @@ func TestP5P6TheMost(t *testing.T) {
 	costs(t, g, "k:0#a", 21)
 }
 
-// Each rule as long as it may be, and the tuples in circles: more than ten thousand nodes are needed.
-func TestP6ManyNodes(t *testing.T) {
+// manyNodes opens a gate whose rules are as long as they may be and whose tuples go in circles, and tells how many nodes each of its nodes needs: more than ten thousand.
+func manyNodes(t *testing.T) (*gatehouse.Gate, int) {
+	t.Helper()
 	heads := "abcdefghijkl"
 	var rules []string
+	relations := len(heads)
 	for at, head := range heads {
 		rule := "k#" + string(head) + "=this|" + heads[(at+1)%12:][:1]
 		for other := 'Ā' + rune(at)*70; len(rule)+3 <= api.MaxRule; other++ {
 			rule += "|" + string(other)
+			relations++
 		}
 		rules = append(rules, rule)
 	}
 	g := opened(t, rules...)
 	for i := range 24 {
-		written(t, g, 2*i+1, fmt.Sprintf("+k:%d#l@k:%d#a", i, i+1))
-		written(t, g, 2*i+2, fmt.Sprintf("+k:%d#l@k:%d#a", i+1, i))
+		written(t, g, i+1, fmt.Sprintf("+k:%d#l@k:%d#a", i, i+1), fmt.Sprintf("+k:%d#l@k:%d#a", i+1, i))
 	}
-	written(t, g, 49, "+k:12#f@u:x")
-	relations := 12
-	for _, rule := range rules {
-		relations += strings.Count(rule, "|") - 1
-	}
+	written(t, g, 25, "+k:12#f@u:x")
+	return g, 25 * relations
+}
+
+func TestP6ManyNodes(t *testing.T) {
+	g, cost := manyNodes(t)
 	for _, node := range []string{"k:0#a", "k:24#l", "k:12#g"} {
 		expands(t, g, node, "u:x")
-		costs(t, g, node, 25*relations)
+		costs(t, g, node, cost)
 	}
 }
 

@@ -1,6 +1,7 @@
 package gatehouse_test
 
 import (
+	"fmt"
 	"math"
 	"slices"
 	"strings"
@@ -194,6 +195,58 @@ func TestP2AnswersToQuestionsAreNewMemory(t *testing.T) {
 	expands(t, g, "a:1#b", "c:x", "c:z")
 }
 
+// P2: a question that is put to the workers is not kept in the caller's memory, and what Poll answers is the caller's.
+func TestP2RequestsShareNoMemory(t *testing.T) {
+	g := openedFor(t, 1, 3, "a#b=this")
+	written(t, g, 1, "+a:1#b@c:z", "+a:1#b@c:y", "+a:1#b@c:x", "+a:2#b@c:x")
+	node, check, other := lend("a:1#b"), lend("a:1#b@c:x"), lend("a:2#b@c:y")
+	submits(t, g, node.text(), 1, 1, 1)
+	submits(t, g, check.text(), 1, 1, 2)
+	submits(t, g, other.text(), 1, 1, 3)
+	for _, text := range []*lent{node, check, other} {
+		text.overwrite()
+	}
+	steps(t, g, 0, 0, 0)
+	for range 3 {
+		polls(t, g, "done 1 c:x c:y c:z", "done 1 allowed", "done 1")
+		spoil := g.Poll(1).Users
+		spoil = spoil[:cap(spoil)]
+		for at := range spoil {
+			spoil[at] = "the caller's"
+		}
+		holds(t, g, "a:1#b@c:x", "a:1#b@c:y", "a:1#b@c:z", "a:2#b@c:x")
+	}
+	before := g.Poll(1).Users
+	written(t, g, 2, "-a:1#b@c:x")
+	g.Close()
+	if !slices.Equal(before, []string{"c:x", "c:y", "c:z"}) {
+		t.Errorf("what Poll answered has become %q", before)
+	}
+}
+
+// P1: what is refused takes no number, no place, no worker and no step.
+func TestP1ARefusedRequestChangesNothing(t *testing.T) {
+	g := openedFor(t, 1, 1, "a#b=this")
+	for range 40 {
+		refusedSubmit(t, g, "a:1#b", 0, 9, api.ErrArg)
+		refusedSubmit(t, g, "a:1", 1, 9, api.ErrTuple)
+		refusedSubmit(t, g, "a:1#c", 1, 9, api.ErrNone)
+		refusedStep(t, g, 1, api.ErrArg)
+	}
+	polls(t, g)
+	submits(t, g, "a:1#b", 1, 9, 1)
+	for range 40 {
+		refusedSubmit(t, g, "a:2#b", 1, 9, api.ErrFull)
+		refusedSubmit(t, g, "a:2#b", 1, 0, api.ErrFull)
+		refusedStep(t, g, -1, api.ErrArg)
+	}
+	polls(t, g, "waiting")
+	steps(t, g, 0)
+	polls(t, g, "done 1")
+	submits(t, g, "a:2#b", 1, 9, 2)
+	polls(t, g, "done 1", "waiting")
+}
+
 // P2: one gate does not touch another.
 func TestP2GatesAreApart(t *testing.T) {
 	one, other := opened(t, "a#b=this", "a#c=this"), opened(t, "a#b=this")
@@ -211,6 +264,19 @@ func TestP2GatesAreApart(t *testing.T) {
 	expands(t, one, "a:2#b")
 	expands(t, other, "a:2#b", "c:d")
 	refused(t, other, "a:1#c", api.ErrTuple, api.ErrNone, api.ErrNone)
+	third := opened(t, "a#b=this")
+	submits(t, other, "a:2#b", 1, 1, 1)
+	submits(t, third, "a:2#b", 1, 1, 1)
+	cancels(t, one, 1, false)
+	steps(t, other, 0)
+	polls(t, one)
+	polls(t, third, "waiting")
+	other.Tick()
+	other.Close()
+	polls(t, third, "waiting")
+	steps(t, third, 0)
+	polls(t, other, "done 1 c:d")
+	polls(t, third, "done 1")
 }
 
 // A gate is asked by many at once: each Write has a version of its own, and none is lost.
@@ -277,4 +343,78 @@ func TestManyAskAtOnce(t *testing.T) {
 		}()
 	}
 	all.Wait()
+}
+
+// Many put, step, cancel and poll at once: each request has a number of its own, and what is done has its own answer, behind its own cost.
+func TestManyRequestsAtOnce(t *testing.T) {
+	for range 30 {
+		g := openedFor(t, api.MaxWorkers, api.MaxQueue, "a#b=this")
+		for i := range 20 {
+			written(t, g, i+1, fmt.Sprintf("+a:%d#b@u:%d", i, i), fmt.Sprintf("+a:%d#b@a:%d#b", i, max(i-1, 0)))
+		}
+		ids := make([][]int, 10) // each one's own, from the first request on
+		var all sync.WaitGroup
+		for asker := range ids {
+			all.Add(1)
+			go func() {
+				defer all.Done()
+				ids[asker] = asksThrice(g, asker)
+			}()
+		}
+		all.Wait()
+		for worker := range api.MaxWorkers {
+			for range 2000 {
+				steps(t, g, worker)
+			}
+		}
+		numbers := slices.Concat(ids...)
+		slices.Sort(numbers)
+		for i, number := range numbers {
+			if number != i+1 {
+				t.Fatalf("the numbers are %v", numbers)
+			}
+		}
+		for asker, own := range ids {
+			for _, id := range own {
+				answeredOwn(t, g, asker, id)
+			}
+		}
+	}
+}
+
+// asksThrice lets all workers go on till there is a place: one alone could be kept waiting by what the others have.
+func asksThrice(g *gatehouse.Gate, asker int) []int {
+	var own []int
+	for len(own) < 3 {
+		id, e := g.Submit(fmt.Sprintf("a:%d#b", 2*asker), api.MaxNumber, api.MaxNumber)
+		if e == api.OK {
+			own = append(own, id)
+			g.Poll(id)
+		}
+		g.Write([]string{fmt.Sprintf("+a:new#b@u:%d", asker)})
+		for worker := range api.MaxWorkers {
+			g.Step(worker)
+		}
+		g.Tick()
+	}
+	if asker%3 == 0 {
+		g.Cancel(own[2])
+	}
+	return own
+}
+
+func answeredOwn(t *testing.T, g *gatehouse.Gate, asker, id int) {
+	t.Helper()
+	got := g.Poll(id)
+	if got.Is == api.Cancelled && asker%3 == 0 {
+		return
+	}
+	var want []string
+	for user := range 2*asker + 1 {
+		want = append(want, fmt.Sprintf("u:%d", user))
+	}
+	slices.Sort(want)
+	if got.Is != api.Done || got.Steps != 2*asker+1 || !slices.Equal(got.Users, want) || got.Allowed {
+		t.Errorf("the request %d became %+v, want %q", id, got, want)
+	}
 }

@@ -7,6 +7,7 @@ import (
 	"sync"
 
 	"gatehouse/api"
+	"gatehouse/desk"
 	"gatehouse/ties"
 	"gatehouse/words"
 )
@@ -17,6 +18,7 @@ type Gate struct {
 	rules   map[words.Head]words.Way // never changed, so it is read without the lock
 	tuples  []string                 // in order; replaced by each Write, never written into
 	version int
+	desk    *desk.Desk
 	closed  bool
 }
 
@@ -36,7 +38,7 @@ func Open(rules []string, workers, queue int) (*Gate, int, api.Errno) {
 		}
 		ways[rule.Head] = rule.Way
 	}
-	return &Gate{rules: ways}, 0, api.OK
+	return &Gate{rules: ways, desk: desk.New(workers, queue)}, 0, api.OK
 }
 
 func within(number, least, most int) bool {
@@ -121,7 +123,7 @@ func (g *Gate) Check(question string) (bool, api.Errno) {
 	if !g.hasRule(asked.Node) {
 		return false, api.ErrNone
 	}
-	return g.now().Stands(asked.Subject, asked.Node), api.OK
+	return g.now().Walk(asked.Node).Has(asked.Subject), api.OK
 }
 
 // Expand tells who stands in a relation (P5).
@@ -133,19 +135,28 @@ func (g *Gate) Expand(question string) ([]string, api.Errno) {
 	if !g.hasRule(asked.Node) {
 		return nil, api.ErrNone
 	}
-	return g.now().Who(asked.Node), api.OK
+	return g.now().Walk(asked.Node).Who(), api.OK
 }
 
 // Cost tells how many nodes a question needs (P6).
 func (g *Gate) Cost(question string) (int, api.Errno) {
+	asked, fault := g.read(question)
+	if fault != api.OK {
+		return 0, fault
+	}
+	return g.now().Walk(asked.Node).Cost(), api.OK
+}
+
+// read reads a question of either kind.
+func (g *Gate) read(question string) (words.Question, api.Errno) {
 	asked, ok := words.ReadQuestion(question)
 	if !ok {
-		return 0, api.ErrTuple
+		return words.Question{}, api.ErrTuple
 	}
 	if !g.hasRule(asked.Node) {
-		return 0, api.ErrNone
+		return words.Question{}, api.ErrNone
 	}
-	return g.now().Cost(asked.Node), api.OK
+	return asked, api.OK
 }
 
 // now gives the ties as they are. The lock is held for no more than a look at the tuples, so that no question waits for another's answer.
@@ -158,26 +169,4 @@ func (g *Gate) snapshot() []string {
 	g.lock.Lock()
 	defer g.lock.Unlock()
 	return g.tuples
-}
-
-// Submit puts a question to the workers (P7).
-func (g *Gate) Submit(question string, budget, until int) (int, api.Errno) { return 0, api.OK }
-
-// Step lets a worker do a step (P8).
-func (g *Gate) Step(worker int) api.Errno { return api.OK }
-
-// Tick moves the clock (P9).
-func (g *Gate) Tick() {}
-
-// Cancel cancels a request (P9).
-func (g *Gate) Cancel(id int) bool { return false }
-
-// Poll tells what became of a request (P10).
-func (g *Gate) Poll(id int) api.State { return api.State{} }
-
-// Close closes a gate (P9).
-func (g *Gate) Close() {
-	g.lock.Lock()
-	defer g.lock.Unlock()
-	g.closed = true
 }

@@ -12,9 +12,14 @@ import (
 
 func opened(t *testing.T, rules ...string) *gatehouse.Gate {
 	t.Helper()
-	g, at, e := gatehouse.Open(rules, 1, 1)
+	return openedFor(t, 1, 1, rules...)
+}
+
+func openedFor(t *testing.T, workers, queue int, rules ...string) *gatehouse.Gate {
+	t.Helper()
+	g, at, e := gatehouse.Open(rules, workers, queue)
 	if g == nil || at != 0 || e != api.OK {
-		t.Fatalf("Open(%q) = %v, %d, %d", rules, g != nil, at, e)
+		t.Fatalf("Open(%q, %d, %d) = %v, %d, %d", rules, workers, queue, g != nil, at, e)
 	}
 	return g
 }

@@ -211,9 +211,9 @@ func someTuples(chance *rand.Rand, p *plain) []string {
 	return tuples
 }
 
-// P5 and P6, at gates put together by chance.
-func TestP5P6AgainstThePlainWords(t *testing.T) {
-	var nodes, users []string
+var allNodes, allUsers = everything()
+
+func everything() (nodes, users []string) {
 	for _, name := range someNames {
 		for _, kind := range someKinds {
 			users = append(users, kind+":"+name)
@@ -224,24 +224,34 @@ func TestP5P6AgainstThePlainWords(t *testing.T) {
 		users = append(users, "u:"+name)
 	}
 	slices.Sort(users)
+	return nodes, users
+}
+
+// in tells who stands in a node, when all is settled.
+func (p *plain) in(node string) []string {
+	return slices.DeleteFunc(slices.Clone(allUsers), func(user string) bool { return !p.who[node][user] })
+}
+
+// P5 and P6, at gates put together by chance.
+func TestP5P6AgainstThePlainWords(t *testing.T) {
 	chance := rand.New(rand.NewSource(5))
 	sizes := map[int]int{}
 	for range 400 {
 		rules := someRules(chance)
 		p := plainly(rules, nil)
 		p.tuples = someTuples(chance, p)
-		p.settle(nodes, users)
+		p.settle(allNodes, allUsers)
 		g := holding(t, rules, p.tuples...)
-		for _, node := range nodes {
+		for _, node := range allNodes {
 			if _, found := p.way(node); !found {
 				refused(t, g, node, api.ErrTuple, api.ErrNone, api.ErrNone)
 				continue
 			}
-			want := slices.DeleteFunc(slices.Clone(users), func(user string) bool { return !p.who[node][user] })
+			want := p.in(node)
 			sizes[len(want)]++
 			expands(t, g, node, want...)
 			costs(t, g, node, p.cost(node))
-			user := pick(chance, users)
+			user := pick(chance, allUsers)
 			checks(t, g, node+"@"+user, p.who[node][user])
 		}
 		if t.Failed() {
@@ -250,6 +260,33 @@ func TestP5P6AgainstThePlainWords(t *testing.T) {
 	}
 	if len(sizes) < 6 {
 		t.Errorf("too few kinds of answers: %v", sizes)
+	}
+}
+
+// P11: more tuples never make that somebody stands in a node no more.
+func TestP11MoreTuples(t *testing.T) {
+	chance := rand.New(rand.NewSource(8))
+	grown := 0
+	for range 40 {
+		rules := someRules(chance)
+		g := opened(t, rules...)
+		before := map[string][]string{}
+		for i, tuple := range someTuples(chance, plainly(rules, nil)) {
+			written(t, g, i+1, "+"+tuple)
+			for _, node := range allNodes {
+				who, _ := g.Expand(node)
+				for _, user := range before[node] {
+					if !slices.Contains(who, user) {
+						t.Fatalf("by the rules %q and the tuples %q, %s stands in %s no more", rules, g.Tuples(), user, node)
+					}
+				}
+				grown += len(who) - len(before[node])
+				before[node] = who
+			}
+		}
+	}
+	if grown < 300 {
+		t.Errorf("too few came to stand anywhere: %d", grown)
 	}
 }
 

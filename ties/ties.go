@@ -91,17 +91,6 @@ func (t *Ties) through(node complex128, way words.Way) []complex128 {
 	return names
 }
 
-// needed tells the nodes that a node needs: itself, and on from there whatever is named.
-func (t *Ties) needed(node complex128) []complex128 {
-	met := counted(node)
-	for at := 0; at < len(met.values); at++ {
-		for _, name := range t.names(met.values[at]) {
-			met.number(name)
-		}
-	}
-	return met.values
-}
-
 // names tells the nodes alone that are named in telling who stands in a node.
 func (t *Ties) names(node complex128) []complex128 {
 	var nodes []complex128
@@ -111,9 +100,4 @@ func (t *Ties) names(node complex128) []complex128 {
 		}
 	}
 	return nodes
-}
-
-// Cost tells how many nodes a node needs.
-func (t *Ties) Cost(node words.Node) int {
-	return len(t.needed(t.node(node)))
 }

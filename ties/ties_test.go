@@ -67,10 +67,10 @@ func TestAskedInAnyOrder(t *testing.T) {
 	for range 20 {
 		ties := tied(t, rules, tuples)
 		for asked, want := range wants {
-			if got := ties.Who(asked); !slices.Equal(got, want) {
+			if got := ties.Walk(asked).Who(); !slices.Equal(got, want) {
 				t.Errorf("in %v stand %q, want %q", asked, got, want)
 			}
-			if got := ties.Stands(node("u", "x", ""), asked); got != slices.Contains(want, "u:x") {
+			if got := ties.Walk(asked).Has(node("u", "x", "")); got != slices.Contains(want, "u:x") {
 				t.Errorf("u:x stands in %v: %v", asked, got)
 			}
 		}
@@ -81,10 +81,10 @@ func TestAskedInAnyOrder(t *testing.T) {
 func TestTuplesAreOnlyRead(t *testing.T) {
 	tuples := []string{"k:2#a@u:y", "k:1#a@k:2#a", "k:1#a@u:x", "spare"}
 	ties := tied(t, []string{"k#a=this"}, tuples[:3])
-	if got := ties.Who(node("k", "1", "a")); !slices.Equal(got, []string{"u:x", "u:y"}) {
+	if got := ties.Walk(node("k", "1", "a")).Who(); !slices.Equal(got, []string{"u:x", "u:y"}) {
 		t.Errorf("there stand %q", got)
 	}
-	if got := ties.Cost(node("k", "1", "a")); got != 2 {
+	if got := ties.Walk(node("k", "1", "a")).Cost(); got != 2 {
 		t.Errorf("the cost is %d", got)
 	}
 	if !slices.Equal(tuples, []string{"k:2#a@u:y", "k:1#a@k:2#a", "k:1#a@u:x", "spare"}) {
@@ -95,10 +95,10 @@ func TestTuplesAreOnlyRead(t *testing.T) {
 // A node that has no rule has nobody, and needs itself alone, even if there were tuples of it.
 func TestNodesWithoutARule(t *testing.T) {
 	ties := tied(t, []string{"k#a=this|b"}, []string{"k:1#b@u:x", "k:1#b@k:2#a", "k:2#a@u:y"})
-	if got := ties.Who(node("k", "1", "a")); len(got) != 0 {
+	if got := ties.Walk(node("k", "1", "a")).Who(); len(got) != 0 {
 		t.Errorf("there stand %q", got)
 	}
-	if all, alone := ties.Cost(node("k", "1", "a")), ties.Cost(node("k", "1", "b")); all != 2 || alone != 1 {
+	if all, alone := ties.Walk(node("k", "1", "a")).Cost(), ties.Walk(node("k", "1", "b")).Cost(); all != 2 || alone != 1 {
 		t.Errorf("the costs are %d and %d", all, alone)
 	}
 }

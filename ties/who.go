@@ -21,25 +21,6 @@ func (c crowd) has(user int) bool {
 	return c&only(user) != 0
 }
 
-// Who tells the things that stand in a node, byte by byte in order.
-func (t *Ties) Who(node words.Node) []string {
-	asked := t.node(node)
-	t.settle(t.needed(asked))
-	var who []string
-	for number, user := range t.users.values {
-		if t.who[asked].has(number) {
-			who = append(who, user.ThingText())
-		}
-	}
-	slices.Sort(who)
-	return who
-}
-
-// Stands tells whether a thing stands in a node.
-func (t *Ties) Stands(thing, node words.Node) bool {
-	return slices.Contains(t.Who(node), thing.ThingText())
-}
-
 // settle lets the crowds grow, from nobody on, until none does any more: so they are the least. A crowd that grew can let only those grow that name it.
 func (t *Ties) settle(nodes []complex128) {
 	namers := t.namers(nodes)

@@ -10,6 +10,11 @@ func (q Question) IsCheck() bool {
 	return q.Subject != Node{}
 }
 
+// Clone is the same question in memory of its own, to be kept.
+func (q Question) Clone() Question {
+	return Question{Node: q.Node.clone(), Subject: q.Subject.clone()}
+}
+
 // ReadQuestion reads a question; false if the text is none. The names are pieces of the text.
 func ReadQuestion(text string) (Question, bool) {
 	r := reader{rest: text}

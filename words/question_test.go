@@ -5,6 +5,7 @@ import (
 	"regexp"
 	"testing"
 	"unicode/utf8"
+	"unsafe"
 )
 
 func TestReadQuestionGivesItsNames(t *testing.T) {
@@ -56,5 +57,21 @@ func TestTheThingOfANode(t *testing.T) {
 	}
 	if node.ThingText() != "group:a" || node.Thing().ThingText() != "group:a" {
 		t.Errorf("the thing of %v is written %q", node, node.ThingText())
+	}
+}
+
+// A clone stays as it is when the memory of the text does not.
+func TestACloneHasMemoryOfItsOwn(t *testing.T) {
+	for text, want := range map[string]Question{
+		"group:a#member@user:x": {Node{"group", "a", "member"}, Node{"user", "x", ""}},
+		"group:a#member":        {Node{"group", "a", "member"}, Node{}},
+	} {
+		bytes := []byte(text)
+		read, _ := ReadQuestion(unsafe.String(&bytes[0], len(bytes)))
+		clone := read.Clone()
+		clear(bytes)
+		if clone != want || clone.IsCheck() != want.IsCheck() {
+			t.Errorf("the clone of %q has become %v", text, clone)
+		}
 	}
 }

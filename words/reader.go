@@ -1,4 +1,4 @@
-// Package words reads what is written to a gate: names, tuples and rules.
+// Package words reads what is written to a gate: names, tuples, rules and questions.
 package words
 
 import (

@@ -1,5 +1,7 @@
 package words
 
+import "strings"
+
 // A Head is what a rule is for: a relation of the things of a kind.
 type Head struct {
 	Kind, Relation string
@@ -33,6 +35,10 @@ func (n Node) Thing() Node {
 // ThingText is the node's thing as it is written.
 func (n Node) ThingText() string {
 	return n.Kind + ":" + n.Name
+}
+
+func (n Node) clone() Node {
+	return Node{Kind: strings.Clone(n.Kind), Name: strings.Clone(n.Name), Relation: strings.Clone(n.Relation)}
 }
 
 // ReadTuple reads a tuple; false if the text is none. The names are pieces of the text.
